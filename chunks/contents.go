@@ -5,27 +5,33 @@ import (
 	"pixels/head"
 )
 
-// keep lays a byte of data where it is needed later. checkType has bounded the lengths; the tests here make the bounds plain.
-func (x *Reader) keep(b byte) {
-	i := x.taken
+// keep lays a byte of data where it is needed, and answers the error that shows at it. checkType has bounded the lengths of all chunks but IDAT's and those that are passed over.
+func (x *Reader) keep(b byte) api.Errno {
 	switch x.chunkType {
 	case ihdr:
-		if i < head.Size {
-			x.raw[i] = b
+		if x.taken < head.Size {
+			x.raw[x.taken] = b
 		}
 	case plte:
-		if i < paletteSize {
-			x.palette[i] = b
-		}
+		x.table.LayPalette(int(x.taken), b)
 	case trns:
-		if i < clearSize {
-			x.clear[i] = b
-		}
+		x.table.LayClear(int(x.taken), b)
 	case idat:
-		if x.streamed < shortest {
-			x.streamed++
-		}
+		return x.takeStream(b)
 	}
+	return api.OK
+}
+
+// takeStream: whether there are enough rows shows when the stream has ended.
+func (x *Reader) takeStream(b byte) api.Errno {
+	e := x.stream.Take(b, &x.rows)
+	if e != api.OK {
+		return e
+	}
+	if x.stream.Ended() && !x.rows.Whole() {
+		return api.ErrFew
+	}
+	return api.OK
 }
 
 // accept answers the error that a chunk's data shows once its sum is right.
@@ -55,16 +61,9 @@ func (x *Reader) acceptClear() api.Errno {
 	}
 	samples := head.Samples(x.head.Kind)
 	for i := 0; i < samples; i++ {
-		if x.clearSample(i) >= x.head.Levels() {
+		if uint32(x.table.ClearSample(i)) >= x.head.Levels() {
 			return api.ErrTrans
 		}
 	}
 	return api.OK
-}
-
-func (x *Reader) clearSample(i int) uint32 {
-	if i < 0 || i > clearSize/2-1 {
-		return 0
-	}
-	return uint32(x.clear[2*i])<<8 | uint32(x.clear[2*i+1])
 }

@@ -2,7 +2,10 @@ package chunks
 
 import (
 	"pixels/api"
+	"pixels/colours"
 	"pixels/head"
+	"pixels/inflate"
+	"pixels/rows"
 )
 
 // The types that are known, as the numbers that their four bytes make.
@@ -14,9 +17,6 @@ const (
 	iend = 'I'<<24 | 'E'<<16 | 'N'<<8 | 'D'
 )
 
-// shortest is the length of the shortest stream: two bytes ahead of the blocks, two of a block of kind 1 that only ends, four of the sum.
-const shortest = 8
-
 // checkType answers the error that a chunk's length and type show, at the place where it stands. The order of the tests is the promise (P4).
 func (x *Reader) checkType() api.Errno {
 	if !isType(x.chunkType) {
@@ -25,7 +25,7 @@ func (x *Reader) checkType() api.Errno {
 	if x.head.W == 0 {
 		return x.checkFirst()
 	}
-	if x.chunkType != idat && x.seenData && !x.dataOver && x.streamed < shortest {
+	if x.chunkType != idat && x.seenData && !x.dataOver && !x.stream.Ended() {
 		return api.ErrShort
 	}
 	switch x.chunkType {
@@ -76,7 +76,7 @@ func (x *Reader) checkPalette() api.Errno {
 	if x.head.Kind == api.Grey || x.head.Kind == api.GreyAlpha {
 		return api.ErrOrder
 	}
-	if x.length < 3 || x.length > paletteSize || x.length%3 != 0 {
+	if x.length < 3 || x.length > colours.PaletteSize || x.length%3 != 0 {
 		return api.ErrSize
 	}
 	if x.head.Kind == api.Palette && x.length > 3*x.head.Levels() {
@@ -105,7 +105,7 @@ func (x *Reader) checkAlphas() api.Errno {
 	if !x.seenPalette {
 		return api.ErrOrder
 	}
-	if x.length < 1 || x.length > x.colours {
+	if x.length < 1 || x.length > uint32(x.table.Colours()) {
 		return api.ErrSize
 	}
 	return api.OK
@@ -128,16 +128,27 @@ func (x *Reader) checkEnd() api.Errno {
 	return api.OK
 }
 
+// beginData: all IDATs together hold one stream.
+func (x *Reader) beginData() {
+	if x.seenData {
+		return
+	}
+	x.seenData = true
+	x.stream = inflate.Begin()
+	x.rows = rows.Begin(x.head, x.table.Colours())
+}
+
 // noteType keeps what later chunks' order and sizes hang on.
 func (x *Reader) noteType() {
 	switch x.chunkType {
 	case plte:
 		x.seenPalette = true
-		x.colours = x.length / 3
+		x.table.SetColours(int(x.length / 3))
 	case trns:
 		x.seenClear = true
+		x.table.SetClears(int(x.length))
 	case idat:
-		x.seenData = true
+		x.beginData()
 	}
 	if x.seenData && x.chunkType != idat {
 		x.dataOver = true

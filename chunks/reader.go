@@ -1,10 +1,14 @@
-// Package chunks: a file taken byte by byte: its signature, its chunks, their order and sums (P2, P4, P5).
+// Package chunks: a file taken byte by byte: its signature, its chunks, their order, sums and contents (P2, P4, P5).
 package chunks
 
 import (
 	"pixels/api"
+	"pixels/colours"
 	"pixels/crc"
 	"pixels/head"
+	"pixels/inflate"
+	"pixels/picture"
+	"pixels/rows"
 )
 
 const (
@@ -13,9 +17,6 @@ const (
 
 	numberSize = 4
 	lengthEnd  = 1 << 31
-
-	paletteSize = 768
-	clearSize   = 256
 )
 
 // What the next byte belongs to.
@@ -38,12 +39,11 @@ type Reader struct {
 	chunkType uint32
 	sum       uint32
 
-	head     head.Head
-	raw      [head.Size]byte
-	palette  [paletteSize]byte
-	colours  uint32
-	clear    [clearSize]byte
-	streamed uint32 // bytes of the stream, counted up to shortest
+	head   head.Head
+	raw    [head.Size]byte
+	table  colours.Table
+	stream inflate.Stream
+	rows   rows.Reader
 
 	seenPalette bool
 	seenClear   bool
@@ -76,6 +76,19 @@ func (x *Reader) Ended() bool {
 // Head answers the header, with a width of 0 until it was accepted.
 func (x *Reader) Head() head.Head {
 	return x.head
+}
+
+// Known, Pix and Show answer the picture's lists (P8), fresh ones each time.
+func (x *Reader) Known() []int {
+	return picture.Known(x.head, &x.rows)
+}
+
+func (x *Reader) Pix() []int {
+	return picture.Pix(x.head, &x.rows, &x.table)
+}
+
+func (x *Reader) Show() []int {
+	return picture.Show(x.head, &x.rows, &x.table)
 }
 
 func (x *Reader) enter(part int) {
@@ -135,7 +148,10 @@ func (x *Reader) takeType(b byte) api.Errno {
 
 func (x *Reader) takeData(b byte) api.Errno {
 	x.sum = crc.Add(x.sum, b)
-	x.keep(b)
+	e := x.keep(b)
+	if e != api.OK {
+		return e
+	}
 	x.taken++
 	if x.taken == x.length {
 		x.enter(inSum)

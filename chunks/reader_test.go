@@ -26,14 +26,26 @@ func read(t *testing.T, s string) *Reader {
 	return x
 }
 
+// entry: colour i of the palette that was read.
+func entry(x *Reader, i int) [4]int {
+	return x.table.Colour(x.head, [4]int{i})
+}
+
+// wide: a colour of bytes.
+func wide(r, g, b, a byte) [4]int {
+	return [4]int{257 * int(r), 257 * int(g), 257 * int(b), 257 * int(a)}
+}
+
 func TestColoursAreKept(t *testing.T) {
 	h := chunk("IHDR", "\x00\x00\x00\x03\x00\x00\x00\x02\x02\x03\x00\x00\x00")
-	x := read(t, sign+h+chunk("PLTE", "abcdefghi")+chunk("tRNS", "\x80\xff"))
-	if x.colours != 3 || string(x.palette[:9]) != "abcdefghi" || x.palette[9] != 0 {
-		t.Errorf("P5: the palette: %d colours, %q", x.colours, x.palette[:10])
+	x := read(t, sign+h+chunk("PLTE", "abcdefghi")+chunk("tRNS", "\x80\xfe"))
+	if x.table.Colours() != 3 {
+		t.Errorf("P5: the palette: %d colours", x.table.Colours())
 	}
-	if string(x.clear[:3]) != "\x80\xff\x00" {
-		t.Errorf("P5: the alphas: %q", x.clear[:3])
+	for i, want := range [][4]int{wide('a', 'b', 'c', 0x80), wide('d', 'e', 'f', 0xfe), wide('g', 'h', 'i', 255)} {
+		if got := entry(x, i); got != want {
+			t.Errorf("P5: colour %d: %v, want %v", i, got, want)
+		}
 	}
 }
 
@@ -45,22 +57,22 @@ func TestAllColoursAreKept(t *testing.T) {
 		data[i] = byte(1 + i%251)
 	}
 	x := read(t, sign+h+chunk("PLTE", string(data))+chunk("tRNS", string(data[:256])))
-	if x.colours != 256 || string(x.palette[:]) != string(data) || string(x.clear[:]) != string(data[:256]) {
-		t.Errorf("P5: %d colours, %v, %v", x.colours, x.palette, x.clear)
+	if x.table.Colours() != 256 {
+		t.Errorf("P5: %d colours", x.table.Colours())
+	}
+	for i := range 256 {
+		if got := entry(x, i); got != wide(data[3*i], data[3*i+1], data[3*i+2], data[i]) {
+			t.Errorf("P5: colour %d: %v", i, got)
+		}
 	}
 }
 
 func TestClearSamplesAreKept(t *testing.T) {
 	h := chunk("IHDR", "\x00\x00\x00\x03\x00\x00\x00\x02\x10\x02\x00\x00\x00")
 	x := read(t, sign+h+chunk("tRNS", "\x01\x02\xff\xfe\x00\x07"))
-	for i, want := range []uint32{0x0102, 0xfffe, 7, 0} {
-		if got := x.clearSample(i); got != want {
+	for i, want := range []int{0x0102, 0xfffe, 7, 0} {
+		if got := x.table.ClearSample(i); got != want {
 			t.Errorf("P5: sample %d: %d, want %d", i, got, want)
-		}
-	}
-	for _, i := range []int{-1, clearSize / 2, 1 << 40} {
-		if x.clearSample(i) != 0 {
-			t.Errorf("P1: sample %d", i)
 		}
 	}
 }
@@ -87,7 +99,10 @@ func TestCopiesHaveNothingInCommon(t *testing.T) {
 		x.Take(p[i])
 	}
 	y.Take('!')
-	if string(x.palette[:9]) != "abcdefghi" || string(y.palette[:4]) != "ab!\x00" {
-		t.Errorf("P1: %q, %q", x.palette[:9], y.palette[:4])
+	if entry(x, 0) != wide('a', 'b', 'c', 255) || entry(x, 2) != wide('g', 'h', 'i', 255) {
+		t.Errorf("P1: %v, %v", entry(x, 0), entry(x, 2))
+	}
+	if entry(&y, 0) != wide('a', 'b', '!', 255) || entry(&y, 2) != wide(0, 0, 0, 255) {
+		t.Errorf("P1: %v, %v", entry(&y, 0), entry(&y, 2))
 	}
 }

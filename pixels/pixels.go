@@ -66,9 +66,9 @@ func (x *Decoder) Snap() api.Snap {
 	s.Kind = h.Kind
 	s.Depth = h.Depth
 	s.Lace = h.Lace
-	s.Known = make([]int, h.W*h.H)
-	s.Pix = make([]int, 4*h.W*h.H)
-	s.Show = make([]int, 4*h.W*h.H)
+	s.Known = x.file.Known()
+	s.Pix = x.file.Pix()
+	s.Show = x.file.Show()
 	return s
 }
 

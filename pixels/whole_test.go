@@ -1,133 +1,13 @@
 package pixels_test
 
 import (
-	"encoding/binary"
-	"hash/crc32"
 	"math/rand"
 	"reflect"
-	"regexp"
 	"testing"
 
 	"pixels/api"
 	"pixels/pixels"
 )
-
-// A second reading of P2 to P5, of all bytes at once, up to the first IDAT's type: what the decoder tells of random files must be the same.
-
-var wellMade = regexp.MustCompile(`^[a-zA-Z]{2}[A-Z][a-zA-Z]$`)
-
-// judged: the first error, its place, and the header if it was accepted; end: where the first IDAT's type ends (or all bytes do).
-type judged struct {
-	err  api.Errno
-	at   int
-	head []byte
-	end  int
-}
-
-func judge(s []byte) judged {
-	for i := range min(len(s), 8) {
-		if s[i] != sign[i] {
-			return judged{api.ErrSign, i, nil, len(s)}
-		}
-	}
-	seen := map[string]int{}
-	var h []byte
-	p := 8
-	for {
-		if len(s) < p+4 {
-			return judged{api.OK, 0, h, len(s)}
-		}
-		n := int64(binary.BigEndian.Uint32(s[p:]))
-		if n > 1<<31-1 {
-			return judged{api.ErrLen, p + 3, h, len(s)}
-		}
-		if len(s) < p+8 {
-			return judged{api.OK, 0, h, len(s)}
-		}
-		kind := string(s[p+4 : p+8])
-		if e := judgeType(kind, n, h, seen); e != api.OK {
-			return judged{e, p + 7, h, len(s)}
-		}
-		if kind == "IDAT" {
-			return judged{api.OK, 0, h, p + 8}
-		}
-		q := int64(p) + 8 + n
-		if int64(len(s)) < q+4 {
-			return judged{api.OK, 0, h, len(s)}
-		}
-		data := s[p+8 : q]
-		if binary.BigEndian.Uint32(s[q:]) != crc32.ChecksumIEEE(s[p+4:q]) {
-			return judged{api.ErrCrc, int(q) + 3, h, len(s)}
-		}
-		if e := judgeData(kind, data, h); e != api.OK {
-			return judged{e, int(q) + 3, h, len(s)}
-		}
-		if kind == "IHDR" {
-			h = data
-		}
-		seen[kind] = 1 + len(data)/3
-		p = int(q) + 4
-	}
-}
-
-func judgeType(kind string, n int64, h []byte, seen map[string]int) api.Errno {
-	if !wellMade.MatchString(kind) {
-		return api.ErrType
-	}
-	if h == nil {
-		return orderOrSize(kind != "IHDR", n != 13)
-	}
-	depth, colour := h[8], h[9]
-	palette, clear := seen["PLTE"] > 0, seen["tRNS"] > 0
-	switch kind {
-	case "IHDR", "IEND":
-		return api.ErrOrder
-	case "PLTE":
-		return orderOrSize(palette || clear || colour == 0 || colour == 4, n == 0 || n > 768 || n%3 > 0 || colour == 3 && n > 3<<depth)
-	case "tRNS":
-		return orderOrSize(clear || colour == 4 || colour == 6 || colour == 3 && !palette,
-			colour == 0 && n != 2 || colour == 2 && n != 6 || colour == 3 && (n == 0 || n > int64(seen["PLTE"]-1)))
-	case "IDAT":
-		return orderOrSize(colour == 3 && !palette, false)
-	}
-	if kind[0] < 'a' {
-		return api.ErrType
-	}
-	return api.OK
-}
-
-func orderOrSize(order, size bool) api.Errno {
-	if order {
-		return api.ErrOrder
-	}
-	if size {
-		return api.ErrSize
-	}
-	return api.OK
-}
-
-func judgeData(kind string, data, h []byte) api.Errno {
-	if kind == "tRNS" && h[9] != 3 {
-		for i := 0; i < len(data); i += 2 {
-			if int(binary.BigEndian.Uint16(data[i:])) > 1<<h[8]-1 {
-				return api.ErrTrans
-			}
-		}
-	}
-	if kind != "IHDR" {
-		return api.OK
-	}
-	w, l := binary.BigEndian.Uint32(data), binary.BigEndian.Uint32(data[4:])
-	legal := map[[2]byte]bool{}
-	forKinds(func(kind, depth int) { legal[[2]byte{byte(kind), byte(depth)}] = true })
-	if int32(w) <= 0 || int32(l) <= 0 || !legal[[2]byte{data[9], data[8]}] || data[10] != 0 || data[11] != 0 || data[12] > 1 {
-		return api.ErrHead
-	}
-	if w > 16 || l > 16 {
-		return api.ErrLarge
-	}
-	return api.OK
-}
 
 // one: one of these.
 func one[T any](r *rand.Rand, of ...T) T { return of[r.Intn(len(of))] }
@@ -192,7 +72,11 @@ func randomFile(r *rand.Rand) []byte {
 	if r.Intn(50) == 0 {
 		s += four(1<<31 + uint32(r.Intn(3)) - 1)
 	}
-	b := []byte(s)
+	return spoiled(r, []byte(s))
+}
+
+// spoiled: the bytes with a bit turned, or cut off, or as they are.
+func spoiled(r *rand.Rand, b []byte) []byte {
 	switch r.Intn(8) {
 	case 0:
 		b[r.Intn(len(b))] ^= 1 << r.Intn(8)
@@ -202,28 +86,105 @@ func randomFile(r *rand.Rand) []byte {
 	return b
 }
 
-func TestRandomFiles(t *testing.T) {
+// same: a decoder tells of these bytes what it must, however they are cut, and Close and what is fed behind it change nothing.
+func same(t *testing.T, r *rand.Rand, b []byte) answer {
+	t.Helper()
+	want := judge(b)
+	x, got := cut(t, r, string(b))
+	if !reflect.DeepEqual(got, want) {
+		t.Fatalf("P3 to P8: %x: %+v, want %+v", b, got, want)
+	}
+	if !got.snap.Done {
+		closes(t, "a random file", x, len(b), got)
+	}
+	return got
+}
+
+func TestRandomChunks(t *testing.T) {
 	r := rand.New(rand.NewSource(2))
 	told := map[api.Errno]int{}
-	for range 20000 {
-		b := randomFile(r)
-		want := judge(b)
-		b = b[:want.end]
-		told[want.err]++
-		snap := api.Snap{}
-		if want.head != nil {
-			h := want.head
-			snap = unknown(int(h[3]), int(h[7]), int(h[9]), int(h[8]), int(h[12]))
-		}
-		snap.Err, snap.At = want.err, want.at
-		x, got := cut(t, r, string(b))
-		if !reflect.DeepEqual(got, answer{want.err, want.at, snap}) {
-			t.Fatalf("P3, P4, P5, P8: %x: %+v, want %+v", b, got, want)
-		}
-		closes(t, "a random file", x, len(b), got)
+	for range 10000 {
+		told[same(t, r, randomFile(r)).err]++
 	}
 	for e := api.OK; e <= api.ErrTrans; e++ {
 		if told[e] < 20 {
+			t.Errorf("error %d came up %d times only", e, told[e])
+		}
+	}
+}
+
+// randomPicture: a file that is right.
+func randomPicture(r *rand.Rand, m image) string {
+	s := m.ahead() + idats(r, randomStream(r, m.rows(r)))
+	for range r.Intn(2) {
+		s += chunk("abCd", "between")
+	}
+	return s + chunk("IEND", "")
+}
+
+// Files that are right, of all kinds, depths and sizes, and what they show behind some of their bytes.
+func TestRandomPictures(t *testing.T) {
+	r := rand.New(rand.NewSource(4))
+	for range 400 {
+		m := randomImage(r)
+		s := randomPicture(r, m)
+		if got := same(t, r, []byte(s)); got.err != api.OK || !got.snap.Done {
+			t.Fatalf("P6, P7: %+v: %d at %d", m, got.err, got.at)
+		}
+		for range 3 {
+			same(t, r, []byte(s[:len(m.ahead())+r.Intn(len(s)-len(m.ahead()))]))
+		}
+	}
+}
+
+// spoiledRows: rows with a byte too much or too little, or with another one, mostly a filter.
+func spoiledRows(r *rand.Rand, m image, rows string) string {
+	switch r.Intn(12) {
+	case 0:
+		return rows + randomBytes(r, 1+r.Intn(300), 256)
+	case 1:
+		return rows[:r.Intn(len(rows))]
+	case 2, 3:
+		at := 0
+		for _, l := range m.lines() {
+			if at+1+len(l.data) >= len(rows) || r.Intn(3) == 0 {
+				break
+			}
+			at += 1 + len(l.data)
+		}
+		return rows[:at] + randomBytes(r, 1, 7) + rows[at+1:]
+	case 4, 5:
+		at := r.Intn(len(rows))
+		return rows[:at] + randomBytes(r, 1, 256) + rows[at+1:]
+	}
+	return rows
+}
+
+// Files whose rows or streams are wrong: the error, its place, and what is known all the same.
+func TestRandomFaults(t *testing.T) {
+	r := rand.New(rand.NewSource(5))
+	told := map[api.Errno]int{}
+	for range 3000 {
+		m := randomImage(r)
+		m.w, m.h, m.pix, m.clear = 1+r.Intn(8), 1+r.Intn(8), nil, ""
+		m = m.filled(r)
+		if m.kind == api.Palette && r.Intn(3) == 0 {
+			m.pix[r.Intn(len(m.pix))] = r.Intn(1 << m.depth)
+		}
+		rows := spoiledRows(r, m, m.rows(r))
+		z := randomStream(r, rows)
+		if r.Intn(3) > 0 {
+			z = wrongStream(r, m.rows(r))
+		}
+		s := m.ahead() + idats(r, z) + chunk("IEND", "")
+		for range r.Intn(2) {
+			s += "!"
+		}
+		got := same(t, r, spoiled(r, []byte(s)))
+		told[got.err]++
+	}
+	for e := api.OK; e <= api.ErrTrail; e++ {
+		if told[e] < 20 && (e == api.OK || e == api.ErrCrc || e >= api.ErrZlib) {
 			t.Errorf("error %d came up %d times only", e, told[e])
 		}
 	}

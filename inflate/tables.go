@@ -1,0 +1,140 @@
+package inflate
+
+import (
+	"pixels/api"
+	"pixels/codes"
+)
+
+const (
+	maxLiterals  = 286
+	maxDistances = 30
+	shorts       = 19 // codes of lengths
+)
+
+// The codes of lengths that say how often a length comes again.
+const (
+	again       = 16
+	noughts     = 17
+	manyNoughts = 18
+)
+
+// order is the order in which the lengths of the codes of lengths are told.
+var order = [shorts]int{16, 17, 18, 0, 8, 7, 9, 6, 10, 5, 11, 4, 12, 3, 13, 2, 14, 1, 15}
+
+// tables is what a block of kind 2 has told of its codes.
+type tables struct {
+	literals  int // how many there are
+	distances int
+	shorts    int
+
+	short        codes.Set // the codes of lengths
+	shortLengths [shorts]byte
+	lengths      [maxLiterals + maxDistances]byte // of literals and distances in one row
+	told         int                              // how many of the lengths at hand were told
+	repeat       int                              // the code that says how often
+}
+
+// takeCounts: how many codes there are of each sort.
+func (x *Stream) takeCounts(n uint32) api.Errno {
+	x.tables = tables{literals: int(n&31) + 257, distances: int(n>>5&31) + 1, shorts: int(n>>10) + 4}
+	if x.tables.literals > maxLiterals || x.tables.distances > maxDistances {
+		return api.ErrCodes
+	}
+	x.enter(inShortLength, 3)
+	return api.OK
+}
+
+func (x *Stream) takeShortLength(n uint32) api.Errno {
+	t := &x.tables
+	if t.told < shorts {
+		t.shortLengths[order[t.told]] = byte(n)
+	}
+	t.told++
+	if t.told < t.shorts {
+		x.enter(inShortLength, 3)
+		return api.OK
+	}
+	t.short = codes.Make(t.shortLengths[:])
+	if !t.short.Full() {
+		return api.ErrCodes
+	}
+	t.told = 0
+	x.enter(inCodeLength, 0)
+	return api.OK
+}
+
+// takeCodeLength: a length, or a code behind which bits say how often one comes again.
+func (x *Stream) takeCodeLength(symbol int) api.Errno {
+	x.tables.repeat = symbol
+	switch {
+	case symbol == codes.More:
+		return api.OK
+	case symbol == codes.None:
+		return api.ErrSymbol
+	case symbol == again && x.tables.told == 0:
+		return api.ErrCodes
+	case symbol == again:
+		x.enter(inRepeat, 2)
+		return api.OK
+	case symbol == noughts:
+		x.enter(inRepeat, 3)
+		return api.OK
+	case symbol == manyNoughts:
+		x.enter(inRepeat, 7)
+		return api.OK
+	}
+	return x.layLengths(byte(symbol), 1)
+}
+
+func (x *Stream) takeRepeat(n uint32) api.Errno {
+	t := &x.tables
+	switch {
+	case t.repeat == noughts:
+		return x.layLengths(0, int(n)+3)
+	case t.repeat == manyNoughts:
+		return x.layLengths(0, int(n)+11)
+	case t.told < 1 || t.told > len(t.lengths):
+		return api.ErrCodes
+	}
+	length := t.lengths[t.told-1]
+	return x.layLengths(length, int(n)+3)
+}
+
+// layLengths lays a length some times and goes on behind the last one that there must be.
+func (x *Stream) layLengths(length byte, times int) api.Errno {
+	t := &x.tables
+	all := t.literals + t.distances
+	if t.told+times > all {
+		return api.ErrCodes
+	}
+	for i := 0; i < times && t.told < len(t.lengths); i++ {
+		t.lengths[t.told] = length
+		t.told++
+	}
+	if t.told < all {
+		x.enter(inCodeLength, 0)
+		return api.OK
+	}
+	return x.makeCodes()
+}
+
+// makeCodes: literals need an end of the block; distances need not be there.
+func (x *Stream) makeCodes() api.Errno {
+	t := &x.tables
+	if t.literals <= endOfBlock || t.literals > maxLiterals || t.told > len(t.lengths) || t.literals > t.told {
+		return api.ErrCodes
+	}
+	x.literals = codes.Make(t.lengths[:t.literals])
+	x.distances = codes.Make(t.lengths[t.literals:t.told])
+	if !x.literals.Full() && !x.literals.Lone() {
+		return api.ErrCodes
+	}
+	if !x.distances.Full() && !x.distances.Lone() && !x.distances.Empty() {
+		return api.ErrCodes
+	}
+	if t.lengths[endOfBlock] == 0 {
+		return api.ErrCodes
+	}
+	x.enter(inSymbol, 0)
+	return api.OK
+}
