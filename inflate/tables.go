@@ -121,7 +121,7 @@ func (x *Stream) layLengths(length byte, times int) api.Errno {
 // makeCodes: literals need an end of the block; distances need not be there.
 func (x *Stream) makeCodes() api.Errno {
 	t := &x.tables
-	if t.literals <= endOfBlock || t.literals > maxLiterals || t.told > len(t.lengths) || t.literals > t.told {
+	if t.literals < 0 || t.literals > t.told || t.told > len(t.lengths) {
 		return api.ErrCodes
 	}
 	x.literals = codes.Make(t.lengths[:t.literals])

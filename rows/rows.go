@@ -170,16 +170,13 @@ func (x *Reader) sample(i int) uint16 {
 	if at < 0 || at >= maxRow {
 		return 0
 	}
-	switch x.head.Depth {
-	case 16:
-		if at+1 >= maxRow {
-			return 0
-		}
-		return uint16(x.row[at])<<8 | uint16(x.row[at+1])
-	case 8:
-		return uint16(x.row[at])
+	if x.head.Depth < 16 {
+		return bitsOf(x.row[at], bit%8, x.head.Depth)
 	}
-	return bitsOf(x.row[at], bit%8, x.head.Depth)
+	if at+1 >= maxRow {
+		return 0
+	}
+	return uint16(x.row[at])<<8 | uint16(x.row[at+1])
 }
 
 // bitsOf answers n bits of a byte behind the first ones, the highest bit first.

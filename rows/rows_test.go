@@ -114,6 +114,19 @@ func TestPassesBeginAnew(t *testing.T) {
 	}
 }
 
+// A pixel has as many samples as its kind, and noughts behind them.
+func TestSamplesOfKinds(t *testing.T) {
+	for kind, want := range map[int][4]int{api.Grey: {1}, api.Palette: {1}, api.GreyAlpha: {1, 2}, api.Rgb: {1, 2, 3}, api.RgbAlpha: {1, 2, 3, 4}} {
+		x := Begin(head.Head{W: 2, H: 1, Depth: 8, Kind: kind}, 256)
+		for b := range 9 {
+			x.Take(byte(b))
+		}
+		if got := x.Samples(0, 0); got != want {
+			t.Errorf("P7: kind %d: %v, want %v", kind, got, want)
+		}
+	}
+}
+
 func TestNone(t *testing.T) {
 	x := Begin(head.Head{W: 16, H: 16, Depth: 8, Kind: api.Grey}, 0)
 	for range 16 * 17 {

@@ -168,6 +168,97 @@ func isTable(s *ast.ValueSpec) bool {
 	return ok && a.Len != nil
 }
 
+// mostWords: a table of more is made by a function instead.
+const mostWords = 200
+
+// Tables are short, hold constants, and nothing changes, slices or points at them.
+func TestTables(t *testing.T) {
+	code, _ := sources(t)
+	for _, path := range code {
+		files := token.NewFileSet()
+		f, e := parser.ParseFile(files, path, nil, parser.SkipObjectResolution)
+		if e != nil {
+			t.Fatal(e)
+		}
+		tables := tablesOf(f)
+		for _, s := range tables {
+			if n := words(s.Values[0]); n < 1 || n > mostWords {
+				t.Errorf("%s: a table of %d", files.Position(s.Pos()), n)
+			}
+		}
+		ast.Inspect(f, func(n ast.Node) bool {
+			if x := touched(n); x != nil && isOf(x, tables) {
+				t.Errorf("%s: a table is more than read", files.Position(n.Pos()))
+			}
+			return true
+		})
+	}
+}
+
+func tablesOf(f *ast.File) []*ast.ValueSpec {
+	var l []*ast.ValueSpec
+	for _, d := range f.Decls {
+		if g, ok := d.(*ast.GenDecl); ok && g.Tok == token.VAR {
+			for _, s := range g.Specs {
+				l = append(l, s.(*ast.ValueSpec))
+			}
+		}
+	}
+	return l
+}
+
+// words: how many numbers or texts a table has; -1, if it has anything else.
+func words(e ast.Expr) int {
+	switch e := e.(type) {
+	case *ast.CompositeLit:
+		all := 0
+		for _, x := range e.Elts {
+			n := words(x)
+			if n < 0 {
+				return -1
+			}
+			all += n
+		}
+		return all
+	case *ast.BasicLit:
+		return 1
+	case *ast.UnaryExpr:
+		return words(e.X)
+	}
+	return -1
+}
+
+// touched: what a statement or expression changes, slices or points at.
+func touched(n ast.Node) ast.Expr {
+	switch n := n.(type) {
+	case *ast.SliceExpr:
+		return n.X
+	case *ast.UnaryExpr:
+		if n.Op == token.AND {
+			return n.X
+		}
+	case *ast.IncDecStmt:
+		return n.X
+	case *ast.AssignStmt:
+		if len(n.Lhs) == 1 && n.Tok != token.DEFINE {
+			return n.Lhs[0]
+		}
+	}
+	return nil
+}
+
+func isOf(e ast.Expr, tables []*ast.ValueSpec) bool {
+	for {
+		i, ok := e.(*ast.IndexExpr)
+		if !ok {
+			break
+		}
+		e = i.X
+	}
+	id, ok := e.(*ast.Ident)
+	return ok && slices.ContainsFunc(tables, func(s *ast.ValueSpec) bool { return s.Names[0].Name == id.Name })
+}
+
 // wrong: why this has no place in the program, or nothing.
 func wrong(n ast.Node) string {
 	switch n := n.(type) {
