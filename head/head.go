@@ -32,6 +32,15 @@ func Read(data [Size]byte) (Head, api.Errno) {
 	return Head{W: int(width), H: int(height), Depth: depth, Kind: kind, Lace: int(data[12])}, api.OK
 }
 
+// Data answers what Read reads as this header.
+func (h Head) Data() [Size]byte {
+	return [Size]byte{
+		byte(h.W >> 24), byte(h.W >> 16), byte(h.W >> 8), byte(h.W),
+		byte(h.H >> 24), byte(h.H >> 16), byte(h.H >> 8), byte(h.H),
+		byte(h.Depth), byte(h.Kind), 0, 0, byte(h.Lace),
+	}
+}
+
 // number keeps to 32 bits without a sign, so that great sides are told apart whatever size an int has.
 func number(a, b, c, d byte) uint32 {
 	return uint32(a)<<24 | uint32(b)<<16 | uint32(c)<<8 | uint32(d)

@@ -107,3 +107,21 @@ func TestReadLastThree(t *testing.T) {
 		}
 	}
 }
+
+func TestDataIsRead(t *testing.T) {
+	for kind := range depths {
+		for _, depth := range depths[kind] {
+			for _, side := range []int{1, 2, 9, 15, 16} {
+				for lace := range 2 {
+					want := Head{W: side, H: 17 - side, Depth: depth, Kind: kind, Lace: lace}
+					if got, e := Read(want.Data()); e != api.OK || got != want {
+						t.Errorf("P5: %+v is read as %+v, %d", want, got, e)
+					}
+				}
+			}
+		}
+	}
+	if got, want := (Head{W: 0x01020304, H: 0x05060708, Depth: 16, Kind: 6, Lace: 1}).Data(), data(0x01020304, 0x05060708, 16, 6, 0, 0, 1); got != want {
+		t.Errorf("P5: %v, want %v", got, want)
+	}
+}

@@ -70,27 +70,12 @@ func (x *Stream) takeStored(b byte, to *rows.Reader) api.Errno {
 }
 
 func fixedLiterals() codes.Set {
-	var l [codes.MaxSymbols]byte
-	for i := 0; i < len(l); i++ {
-		switch {
-		case i < 144:
-			l[i] = 8
-		case i < 256:
-			l[i] = 9
-		case i < 280:
-			l[i] = 7
-		default:
-			l[i] = 8
-		}
-	}
+	l := codes.FixedLiterals()
 	return codes.Make(l[:])
 }
 
 func fixedDistances() codes.Set {
-	var l [32]byte
-	for i := 0; i < len(l); i++ {
-		l[i] = 5
-	}
+	l := codes.FixedDistances()
 	return codes.Make(l[:])
 }
 

@@ -109,14 +109,19 @@ func far(a, b int) int { return max(a-b, b-a) }
 
 // rows: the bytes of all rows, with filters that r chooses.
 func (m image) rows(r *rand.Rand) string {
+	return m.filtered(func(int) int { return r.Intn(5) })
+}
+
+// filtered: the same, with these filters.
+func (m image) filtered(filter func(row int) int) string {
 	var all []byte
 	var above []byte
 	pass := -1
-	for _, l := range m.lines() {
+	for k, l := range m.lines() {
 		if l.pass != pass {
 			above, pass = nil, l.pass
 		}
-		f := byte(r.Intn(5))
+		f := byte(filter(k))
 		all = append(all, f)
 		for i, b := range l.data {
 			all = append(all, b-guess(f, l.data, above, i, m.step()))

@@ -30,6 +30,15 @@ type puller struct {
 	window int
 	ended  bool
 	end    int // the byte with which it has ended
+	seen   []seen
+}
+
+// seen: a block as it was read.
+type seen struct {
+	last   bool
+	kind   int
+	end    int     // how many bytes there are behind it
+	tokens []token // of kinds 1 and 2
 }
 
 func (p *puller) bit() int {
@@ -91,6 +100,16 @@ func plant(lengths []int) (t tree, total, ones int) {
 
 const full = -1
 
+// The codes of blocks of kind 1.
+var fixedLiterals, fixedDistances = fixedTrees()
+
+func fixedTrees() (tree, tree) {
+	a, b := fixedBooks()
+	l, _, _ := plant(a.lengths)
+	d, _, _ := plant(b.lengths)
+	return l, d
+}
+
 func (p *puller) symbol(t tree) int {
 	c := ""
 	for {
@@ -116,7 +135,9 @@ func (p *puller) stream() {
 	p.window = 1 << (8 + c>>4)
 	for last := 0; last == 0; {
 		last = p.bit()
-		switch p.num(2) {
+		kind := p.num(2)
+		p.seen = append(p.seen, seen{last: last == 1, kind: kind})
+		switch kind {
 		case 0:
 			p.byteAligned()
 			n := p.num(16)
@@ -127,15 +148,13 @@ func (p *puller) stream() {
 				p.give(byte(p.num(8)))
 			}
 		case 1:
-			a, b := fixedBooks()
-			l, _, _ := plant(a.lengths)
-			d, _, _ := plant(b.lengths)
-			p.symbols(l, d)
+			p.symbols(fixedLiterals, fixedDistances)
 		case 2:
 			p.symbols(p.trees())
 		case 3:
 			p.fail(api.ErrBlock)
 		}
+		p.seen[len(p.seen)-1].end = len(p.out)
 	}
 	p.byteAligned()
 	v := uint32(0)
@@ -211,11 +230,13 @@ func (p *puller) symbols(literals, distances tree) {
 	lengths, lengthBits := further(3, 28, func(s int) int { return max(0, s/4-1) })
 	lengths, lengthBits = append(lengths, 258), append(lengthBits, 0)
 	reach, reachBits := further(1, 30, func(s int) int { return max(0, s/2-1) })
+	l := &p.seen[len(p.seen)-1].tokens
 	for {
 		s := p.symbol(literals)
 		switch {
 		case s < 256:
 			p.give(byte(s))
+			*l = append(*l, token{b: byte(s)})
 			continue
 		case s == 256:
 			return
@@ -231,6 +252,7 @@ func (p *puller) symbols(literals, distances tree) {
 		if d > len(p.out) || d > p.window {
 			p.fail(api.ErrFar)
 		}
+		*l = append(*l, token{length: n, distance: d})
 		for range n {
 			p.give(p.out[len(p.out)-d])
 		}

@@ -3,7 +3,9 @@ package pixels
 
 import (
 	"pixels/api"
+	"pixels/checks"
 	"pixels/chunks"
+	"pixels/file"
 )
 
 // Decoder is fed bytes and shows what is known.
@@ -72,11 +74,21 @@ func (x *Decoder) Snap() api.Snap {
 	return s
 }
 
-// Encoder writes files.
+// Encoder writes files. It keeps nothing, as a file hangs on the image and the choice alone (P10).
 type Encoder struct{}
 
 // NewEncoder makes an encoder (P9).
-func NewEncoder() *Encoder { return nil }
+func NewEncoder() *Encoder { return &Encoder{} }
 
 // Encode writes the file of an image, as the choice has it (P9 to P12).
-func (x *Encoder) Encode(im api.Image, ch api.Choice) (string, api.Errno) { return "", api.OK }
+func (x *Encoder) Encode(im api.Image, ch api.Choice) (string, api.Errno) {
+	e := checks.Image(im)
+	if e != api.OK {
+		return "", e
+	}
+	e = checks.Choice(ch)
+	if e != api.OK {
+		return "", e
+	}
+	return file.Write(im, ch), api.OK
+}
