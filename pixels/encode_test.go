@@ -328,6 +328,35 @@ func TestEncodeOwns(t *testing.T) {
 	}
 }
 
+// Lists that were handed in once and have been changed since are read afresh.
+func TestEncodeReadsAfresh(t *testing.T) {
+	im, ch := small(api.Grey, 8)
+	im.W, im.Pix = 3, []int{1, 2, 3}
+	ch.Filters = []int{1}
+	x, y := pixels.NewEncoder(), pixels.NewEncoder()
+	for v := range 256 {
+		im.Pix[v%3] = v
+		ch.Filters[0] = v % 5
+		ch.Cuts[0] = 1 + v
+		s, e := x.Encode(im, ch)
+		other := ch
+		other.Filters, other.Cuts = []int{v % 5}, []int{1 + v}
+		fresh := im
+		fresh.Pix = slices.Clone(im.Pix)
+		y.Encode(api.Image{W: v}, ch)
+		if want, f := y.Encode(fresh, other); s != want || e != f {
+			t.Fatalf("P1, P10: %x, %d, want %x, %d", s, e, want, f)
+		}
+		z := pixels.New()
+		z.Feed(s)
+		for i, p := range im.Pix {
+			if got := z.Snap(); !got.Done || got.Pix[4*i] != 257*p {
+				t.Fatalf("P1, P10: %v is read as %+v", im.Pix, got)
+			}
+		}
+	}
+}
+
 // An encoder that was not made by NewEncoder has no right to panic either.
 func TestBareEncoders(t *testing.T) {
 	im := api.Image{W: 1, H: 1, Kind: api.Grey, Depth: 8, Pix: []int{7}}
