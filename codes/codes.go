@@ -6,6 +6,8 @@ const (
 	MaxBits = 15
 	// MaxSymbols is the greatest number of symbols that a set may have.
 	MaxSymbols = 288
+	// EndOfBlock is the symbol that ends a block of kind 1 or 2.
+	EndOfBlock = 256
 )
 
 // What Step answers where there is no symbol.

@@ -7,6 +7,11 @@ const (
 	// Lengths and Distances are how many symbols there are of each.
 	Lengths   = 29
 	Distances = 30
+	// MinLength and MaxLength are the least and the greatest length.
+	MinLength = 3
+	MaxLength = 258
+
+	maxDistance = 32768
 )
 
 var lengths = [Lengths]int{
@@ -39,4 +44,28 @@ func Distance(symbol int) (int, int) {
 		return 0, 0
 	}
 	return distances[symbol], max(0, symbol/2-1)
+}
+
+// LengthSymbol answers the symbol that says a length; 0, if none does. Of the two that say 258 it is the one without further bits.
+func LengthSymbol(length int) int {
+	if length < MinLength || length > MaxLength {
+		return 0
+	}
+	i := 0
+	for i+1 < Lengths && lengths[i+1] <= length {
+		i++
+	}
+	return FirstLength + i
+}
+
+// DistanceSymbol answers the symbol that says a distance; -1, if none does.
+func DistanceSymbol(distance int) int {
+	if distance < 1 || distance > maxDistance {
+		return -1
+	}
+	i := 0
+	for i+1 < Distances && distances[i+1] <= distance {
+		i++
+	}
+	return i
 }

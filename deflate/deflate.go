@@ -5,40 +5,46 @@ import (
 	"pixels/adler"
 	"pixels/api"
 	"pixels/codes"
+	"pixels/shortest"
+	"pixels/tokens"
 	"pixels/turns"
 )
 
-// The kinds of blocks that are written. What may be of kind 2 is of kind 1 for now.
+// The kinds of blocks.
 const (
-	stored = 0
-	fixed  = 1
+	stored  = 0
+	fixed   = 1
+	dynamic = 2
 )
-
-// endOfBlock is the symbol behind a block's last byte.
-const endOfBlock = 256
 
 // writer has written a stream up to some block.
 type writer struct {
-	bits     bits
-	literals codes.Book // of blocks of kind 1
+	bits  bits
+	fixed books
 }
 
 // Stream answers the stream of these bytes, as the choice has it. Of no bytes it has one block all the same, as a stream must.
 func Stream(data []byte, ch api.Choice) []byte {
-	lengths := codes.FixedLiterals()
-	x := writer{literals: codes.BookOf(lengths[:])}
+	x := writer{fixed: fixedBooks()}
 	x.writeHead(ch.Window)
+	search := tokens.Search{Window: windowSize(ch.Window), Places: ch.Search}
 	part := max(ch.Part, 1)
 	from := 0
 	for k := 0; k == 0 || from < len(data); k++ {
 		to := from + min(part, len(data)-from)
 		kind := turns.Of(ch.Kinds, k)
-		x.writeBlock(kind, data[from:to], to == len(data))
+		x.writeMark(to == len(data))
+		x.writeBlock(kind, data[:to], from, search)
 		from = to
 	}
 	x.bits.fill()
 	x.writeSum(data)
 	return x.bits.out
+}
+
+// windowSize: of a window that may be, 0 to 7.
+func windowSize(window int) int {
+	return 256 << uint(window&7)
 }
 
 // writeHead: the two bytes make a multiple of 31, with the least second one that does.
@@ -48,42 +54,55 @@ func (x *writer) writeHead(window int) {
 	x.bits.number((31-256*first%31)%31, 8)
 }
 
-func (x *writer) writeBlock(kind int, data []byte, last bool) {
+// writeMark says whether the block is the last one.
+func (x *writer) writeMark(last bool) {
 	mark := uint32(0)
 	if last {
 		mark = 1
 	}
 	x.bits.number(mark, 1)
+}
+
+// writeBlock writes the block that begins at a place of data and ends where data ends.
+func (x *writer) writeBlock(kind int, data []byte, from int, search tokens.Search) {
 	if kind == stored {
-		x.writeStored(data)
+		x.writeStored(data, from)
 		return
 	}
-	x.writeFixed(data)
+	l := tokens.Of(data, from, search)
+	if kind == dynamic {
+		x.writeDynamic(l)
+		return
+	}
+	x.writeFixed(l)
 }
 
 // writeStored: the length stands there twice, the second time with all its bits turned. These pictures' bytes are fewer than 65536.
-func (x *writer) writeStored(data []byte) {
-	size := uint32(len(data))
+func (x *writer) writeStored(data []byte, from int) {
+	size := uint32(len(data) - from)
 	x.bits.number(stored, 2)
 	x.bits.fill()
 	x.bits.number(size, 16)
 	x.bits.number(^size, 16)
-	for i := 0; i < len(data); i++ {
+	for i := max(from, 0); i < len(data); i++ {
 		x.bits.number(uint32(data[i]), 8)
 	}
 }
 
-func (x *writer) writeFixed(data []byte) {
+func (x *writer) writeFixed(l []tokens.Token) {
 	x.bits.number(fixed, 2)
-	for i := 0; i < len(data); i++ {
-		x.writeSymbol(int(data[i]))
-	}
-	x.writeSymbol(endOfBlock)
+	x.writeTokens(l, x.fixed)
 }
 
-func (x *writer) writeSymbol(symbol int) {
-	code, size := x.literals.Code(symbol)
-	x.bits.code(code, size)
+// writeDynamic: the codes are the shortest for the symbols that this block has.
+func (x *writer) writeDynamic(l []tokens.Token) {
+	often := countsOf(l)
+	literals := shortest.Lengths(often.literals[:], codes.MaxBits)
+	distances := shortest.Lengths(often.distances[:], codes.MaxBits)
+	x.bits.number(dynamic, 2)
+	x.writeLengths(literals, distances)
+	b := booksOf(literals, distances)
+	x.writeTokens(l, b)
 }
 
 // writeSum: unlike the stream's other numbers it has its high byte first.

@@ -7,12 +7,6 @@ import (
 	"pixels/rows"
 )
 
-// The symbols that say no byte.
-const (
-	endOfBlock = 256
-	firstCopy  = copies.FirstLength
-)
-
 // takeBlock: the bit that says whether the block is the last one, and its kind.
 func (x *Stream) takeBlock(n uint32) api.Errno {
 	x.last = n&1 == 1
@@ -84,11 +78,11 @@ func (x *Stream) takeSymbol(symbol int, to *rows.Reader) api.Errno {
 	switch {
 	case symbol == codes.More:
 		return api.OK
-	case symbol < 0 || symbol >= firstCopy+copies.Lengths:
+	case symbol < 0 || symbol >= copies.FirstLength+copies.Lengths:
 		return api.ErrSymbol
-	case symbol == endOfBlock:
+	case symbol == codes.EndOfBlock:
 		return x.endBlock()
-	case symbol >= firstCopy:
+	case symbol >= copies.FirstLength:
 		return x.beginCopy(symbol)
 	}
 	x.enter(inSymbol, 0)

@@ -5,22 +5,6 @@ import (
 	"pixels/codes"
 )
 
-const (
-	maxLiterals  = 286
-	maxDistances = 30
-	shorts       = 19 // codes of lengths
-)
-
-// The codes of lengths that say how often a length comes again.
-const (
-	again       = 16
-	noughts     = 17
-	manyNoughts = 18
-)
-
-// order is the order in which the lengths of the codes of lengths are told.
-var order = [shorts]int{16, 17, 18, 0, 8, 7, 9, 6, 10, 5, 11, 4, 12, 3, 13, 2, 14, 1, 15}
-
 // tables is what a block of kind 2 has told of its codes.
 type tables struct {
 	literals  int // how many there are
@@ -28,16 +12,16 @@ type tables struct {
 	shorts    int
 
 	short        codes.Set // the codes of lengths
-	shortLengths [shorts]byte
-	lengths      [maxLiterals + maxDistances]byte // of literals and distances in one row
-	told         int                              // how many of the lengths at hand were told
-	repeat       int                              // the code that says how often
+	shortLengths [codes.Shorts]byte
+	lengths      [codes.MaxLiterals + codes.MaxDistances]byte // of literals and distances in one row
+	told         int                                          // how many of the lengths at hand were told
+	repeat       int                                          // the code that says how often
 }
 
 // takeCounts: how many codes there are of each sort.
 func (x *Stream) takeCounts(n uint32) api.Errno {
-	x.tables = tables{literals: int(n&31) + 257, distances: int(n>>5&31) + 1, shorts: int(n>>10) + 4}
-	if x.tables.literals > maxLiterals || x.tables.distances > maxDistances {
+	x.tables = tables{literals: int(n&31) + codes.MinLiterals, distances: int(n>>5&31) + 1, shorts: int(n>>10) + codes.MinShorts}
+	if x.tables.literals > codes.MaxLiterals || x.tables.distances > codes.MaxDistances {
 		return api.ErrCodes
 	}
 	x.enter(inShortLength, 3)
@@ -46,8 +30,9 @@ func (x *Stream) takeCounts(n uint32) api.Errno {
 
 func (x *Stream) takeShortLength(n uint32) api.Errno {
 	t := &x.tables
-	if t.told < shorts {
-		t.shortLengths[order[t.told]] = byte(n)
+	short := codes.ShortAt(t.told)
+	if short >= 0 && short < codes.Shorts {
+		t.shortLengths[short] = byte(n)
 	}
 	t.told++
 	if t.told < t.shorts {
@@ -71,16 +56,12 @@ func (x *Stream) takeCodeLength(symbol int) api.Errno {
 		return api.OK
 	case symbol == codes.None:
 		return api.ErrSymbol
-	case symbol == again && x.tables.told == 0:
+	case symbol == codes.Again && x.tables.told == 0:
 		return api.ErrCodes
-	case symbol == again:
-		x.enter(inRepeat, 2)
-		return api.OK
-	case symbol == noughts:
-		x.enter(inRepeat, 3)
-		return api.OK
-	case symbol == manyNoughts:
-		x.enter(inRepeat, 7)
+	}
+	_, bits := codes.Repeat(symbol)
+	if bits > 0 {
+		x.enter(inRepeat, uint(bits))
 		return api.OK
 	}
 	return x.layLengths(byte(symbol), 1)
@@ -88,16 +69,16 @@ func (x *Stream) takeCodeLength(symbol int) api.Errno {
 
 func (x *Stream) takeRepeat(n uint32) api.Errno {
 	t := &x.tables
-	switch {
-	case t.repeat == noughts:
-		return x.layLengths(0, int(n)+3)
-	case t.repeat == manyNoughts:
-		return x.layLengths(0, int(n)+11)
-	case t.told < 1 || t.told > len(t.lengths):
+	least, _ := codes.Repeat(t.repeat)
+	times := least + int(n)
+	if t.repeat != codes.Again {
+		return x.layLengths(0, times)
+	}
+	if t.told < 1 || t.told > len(t.lengths) {
 		return api.ErrCodes
 	}
 	length := t.lengths[t.told-1]
-	return x.layLengths(length, int(n)+3)
+	return x.layLengths(length, times)
 }
 
 // layLengths lays a length some times and goes on behind the last one that there must be.
@@ -132,7 +113,7 @@ func (x *Stream) makeCodes() api.Errno {
 	if !x.distances.Full() && !x.distances.Lone() && !x.distances.Empty() {
 		return api.ErrCodes
 	}
-	if t.lengths[endOfBlock] == 0 {
+	if t.lengths[codes.EndOfBlock] == 0 {
 		return api.ErrCodes
 	}
 	x.enter(inSymbol, 0)

@@ -130,7 +130,7 @@ func encoded(t *testing.T, r *rand.Rand, m image, ch api.Choice) string {
 	return s
 }
 
-// checkBlocks: parts, kinds and marks. A block of kind 2 may be of kind 1 so far, and have no copies.
+// checkBlocks: parts, kinds, marks, tokens and codes.
 func checkBlocks(t *testing.T, p *puller, ch api.Choice) {
 	t.Helper()
 	at := 0
@@ -139,16 +139,19 @@ func checkBlocks(t *testing.T, p *puller, ch api.Choice) {
 		if b.end-at != size || size == 0 {
 			t.Fatalf("P12: %+v: block %d has %d bytes, want %d", ch, k, b.end-at, size)
 		}
-		at = b.end
-		if b.last != (at == len(p.out)) {
+		if b.last != (b.end == len(p.out)) {
 			t.Fatalf("P12: %+v: block %d of %d is marked: %v", ch, k, len(p.seen), b.last)
 		}
-		if want := ch.Kinds[k%len(ch.Kinds)]; b.kind != want && !(want == 2 && b.kind == 1) {
+		if want := ch.Kinds[k%len(ch.Kinds)]; b.kind != want {
 			t.Fatalf("P12: %+v: block %d is of kind %d, want %d", ch, k, b.kind, want)
 		}
-		if b.kind != 0 && ch.Search == 0 && len(b.tokens) != size {
-			t.Fatalf("P12: %+v: block %d has copies", ch, k)
+		if want := mustTokens(string(p.out[:b.end]), at, ch); b.kind != 0 && !slices.Equal(b.tokens, want) {
+			t.Fatalf("P12: %+v: block %d of %x: tokens %v, want %v", ch, k, p.out, b.tokens, want)
 		}
+		if why := wrongCodes(b); why != "" {
+			t.Fatalf("P12: %+v: block %d, tokens %v: %s", ch, k, b.tokens, why)
+		}
+		at = b.end
 	}
 	if at != len(p.out) {
 		t.Fatalf("P12: %+v: %d bytes of %d", ch, at, len(p.out))
@@ -174,9 +177,11 @@ func TestEncodeSides(t *testing.T) {
 				m := image{w: c[0], h: c[1], kind: kind, depth: depth, lace: lace}.filled(r)
 				ch := randomChoice(r, lace, len(m.rowsOfNought()))
 				encoded(t, r, m, ch)
-				ch.Kinds = []int{r.Intn(2)}
-				ch.Part = one(r, 1, len(m.rowsOfNought()), math.MaxInt)
-				encoded(t, r, m, ch)
+				for kind := range 3 {
+					ch.Kinds = []int{kind}
+					ch.Part = one(r, 1, len(m.rowsOfNought()), math.MaxInt)
+					encoded(t, r, m, ch)
+				}
 			}
 		}
 	})
@@ -210,10 +215,11 @@ func TestEncodeValues(t *testing.T) {
 				}
 				m.pix = append(m.pix, v&(1<<depth-1))
 			}
-			for kind := range 2 {
+			for kind := range 3 {
 				ch := plain(kind)
 				ch.Lace = m.lace
 				ch.Filters = []int{0, 1, 2, 3, 4}
+				ch.Search = one(r, 0, 1, 64)
 				encoded(t, r, m, ch)
 			}
 		}
@@ -226,13 +232,13 @@ func TestEncodeParts(t *testing.T) {
 	m := image{w: 9, h: 5, kind: api.Grey, depth: 8}.filled(r)
 	size := len(m.rowsOfNought())
 	for _, part := range []int{1, 2, 3, size/2 - 1, size / 2, size - 1, size, size + 1, 65535, 65536, 1 << 32, math.MaxInt} {
-		for _, l := range [][]int{{0}, {1}, {0, 1}, {1, 0}, {2}, {1, 1, 0}, {2, 0, 1}} {
-			ch := api.Choice{Filters: []int{3}, Kinds: l, Part: part, Cuts: []int{50}, Window: part % 8}
+		for _, l := range [][]int{{0}, {1}, {2}, {0, 1}, {1, 0}, {0, 2}, {2, 0}, {1, 2}, {2, 1}, {1, 1, 0}, {2, 0, 1}, {0, 0, 2, 2, 1}} {
+			ch := api.Choice{Filters: []int{3}, Kinds: l, Part: part, Cuts: []int{50}, Window: part % 8, Search: part % 3}
 			encoded(t, r, m, ch)
 		}
 	}
 	for window := range 8 {
-		ch := plain(window % 2)
+		ch := plain(window % 3)
 		ch.Window = window
 		encoded(t, r, m, ch)
 	}

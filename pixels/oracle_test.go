@@ -39,6 +39,8 @@ type seen struct {
 	kind   int
 	end    int     // how many bytes there are behind it
 	tokens []token // of kinds 1 and 2
+
+	literals, distances []int // of kind 2: the lengths of its codes
 }
 
 func (p *puller) bit() int {
@@ -205,6 +207,8 @@ func (p *puller) trees() (tree, tree) {
 			p.fail(api.ErrCodes)
 		}
 	}
+	b := &p.seen[len(p.seen)-1]
+	b.literals, b.distances = l[:nl], l[nl:]
 	lt, total, ones := plant(l[:nl])
 	if total != full && !(total == 1 && ones == 1) || l[256] == 0 {
 		p.fail(api.ErrCodes)
